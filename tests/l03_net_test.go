@@ -411,6 +411,89 @@ func TestNetsThatAreNotRight(t *testing.T) {
 	}
 }
 
+// Nodes are 1 .. N: a link with an end that is none names no node, and leaves
+// the links beside it as they are.
+func TestNextToNamesNoneButNodes(t *testing.T) {
+	const n = 3
+	beside := linksOf([][4]int{{1, 2, 5, 0}, {2, 3, 6, 0}, {1, 3, 7, 1}})
+	want := func(node, area int) []int {
+		switch [2]int{node, area} {
+		case [2]int{1, 0}, [2]int{3, 0}:
+			return []int{2}
+		case [2]int{2, 0}:
+			return []int{1, 3}
+		case [2]int{1, 1}:
+			return []int{3}
+		case [2]int{3, 1}:
+			return []int{1}
+		}
+		return nil
+	}
+	for _, none := range []int{math.MinInt, -1, 0, n + 1, n + 2, impl.MaxNodes, impl.MaxNodes + 1, 9, math.MaxInt} {
+		for to := 1; to <= n; to++ {
+			for area := range impl.MaxArea + 1 {
+				asA := impl.Link{A: none, B: to, Cost: 8, Area: area}
+				asB := impl.Link{A: to, B: none, Cost: 8, Area: area}
+				for _, more := range [][]impl.Link{{asA}, {asB}, {asA, asB}} {
+					for at := range len(beside) + 1 {
+						mustBeNextTo(t, impl.Net{N: n, Links: slices.Insert(slices.Clone(beside), at, more...)}, want)
+					}
+					mustBeNextTo(t, impl.Net{N: n, Links: more}, func(int, int) []int { return nil })
+				}
+			}
+		}
+	}
+}
+
+// mustBeNextTo asks NextTo of each node of the net in each area.
+func mustBeNextTo(t *testing.T, x impl.Net, want func(node, area int) []int) {
+	t.Helper()
+	for node := 1; node <= x.N; node++ {
+		for area := range impl.MaxArea + 1 {
+			if got := impl.NextTo(x, node, area); !slices.Equal(got, want(node, area)) {
+				t.Fatalf("NextTo(%v, %d, %d) = %v; want %v", x, node, area, got, want(node, area))
+			}
+		}
+	}
+}
+
+// The nodes that there are hang on N alone, the first and the last one among them.
+func TestNextToGoesByN(t *testing.T) {
+	links := linksOf([][4]int{{1, 0, 5, 0}, {1, 2, 5, 0}, {3, 1, 5, 0}, {1, 6, 5, 0}, {7, 1, 5, 0}})
+	for _, c := range []struct {
+		n    int
+		want []int
+	}{
+		{math.MinInt, nil}, {-1, nil}, {0, nil}, {1, nil}, {2, []int{2}}, {3, []int{2, 3}}, {5, []int{2, 3}}, {6, []int{2, 3, 6}},
+	} {
+		if got := impl.NextTo(impl.Net{N: c.n, Links: links}, 1, 0); !slices.Equal(got, c.want) {
+			t.Errorf("N %d: NextTo = %v; want %v", c.n, got, c.want)
+		}
+	}
+	x := impl.Net{N: math.MinInt, Links: linksOf([][4]int{{math.MaxInt, 0, math.MaxInt, 0}})}
+	for _, node := range []int{0, math.MaxInt} {
+		if got := impl.NextTo(x, node, 0); len(got) > 0 {
+			t.Errorf("a net without nodes: NextTo(%d) = %v", node, got)
+		}
+	}
+}
+
+// That an end is no node is for NextTo, which names it: the other end has a link
+// in the area all the same, and the link its cost.
+func TestLinksWithNoNodeHaveAreasAndCosts(t *testing.T) {
+	for _, none := range []int{math.MinInt, -1, 0, 3, 9, math.MaxInt} {
+		for _, links := range [][][4]int{{{1, none, 5, 0}, {none, 1, 6, 2}}, {{none, 1, 5, 0}, {1, none, 6, 2}}} {
+			x := impl.Net{N: 2, Links: linksOf(links)}
+			if got := impl.AreasOf(x, 1); !slices.Equal(got, []int{0, 2}) || !impl.Border(x, 1) {
+				t.Errorf("AreasOf(%v, 1) = %v, Border %v", x, got, impl.Border(x, 1))
+			}
+			if there, back := impl.CostTo(x, 1, none, 2), impl.CostTo(x, none, 1, 2); there != 6 || back != 6 {
+				t.Errorf("%v: CostTo %d and %d", x, there, back)
+			}
+		}
+	}
+}
+
 func TestNetsAnswerWhateverComes(t *testing.T) {
 	odd := []int{math.MinInt, -1, 0, 1, 2, 3, 6, 7, math.MaxInt}
 	for _, a := range odd {
@@ -423,6 +506,9 @@ func TestNetsAnswerWhateverComes(t *testing.T) {
 					areas := impl.AreasOf(x, a)
 					next := impl.NextTo(x, a, area)
 					if !slices.IsSorted(next) || len(slices.Compact(slices.Clone(next))) != len(next) {
+						t.Fatalf("NextTo(%v, %d, %d) = %v", x, a, area, next)
+					}
+					if len(next) > 0 && (next[0] < 1 || next[len(next)-1] > n) {
 						t.Fatalf("NextTo(%v, %d, %d) = %v", x, a, area, next)
 					}
 					for _, one := range areas {
